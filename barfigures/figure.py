@@ -1,7 +1,7 @@
 """A figure: the points of a linkage at a place of the crank, with each dyad on a given side."""
 
 from barfigures.linkage import CRANK, DYAD, PIN
-from barfigures.surds import add, multiply, scale, sign, square, subtract, times_root
+from barfigures.surds import add, multiply, scale, sign, square, subtract, times_root, without_common_factor
 
 CLOSED = 0
 LOOSE = 1
@@ -41,6 +41,11 @@ class Figure:
         self.dyads = 0
         self.touching = 0
 
+    # What's built over the spot has numbers several times as long as its own, so these are kept short.
+    def add_spot(self, spot):
+        short = without_common_factor([spot.x, spot.y, spot.under])
+        self.spots.append(Spot(short[0], short[1], short[2]))
+
     def is_told(self):
         return self.state == CLOSED and self.sides & self.touching == 0
 
@@ -64,13 +69,13 @@ def build_figure(linkage, a, b, sides):
 
 def add_line(figure, line):
     if line.kind == PIN:
-        figure.spots.append(Spot([line.numbers[0]], [line.numbers[1]], [1]))
+        figure.add_spot(Spot([line.numbers[0]], [line.numbers[1]], [1]))
     elif line.kind == CRANK:
-        figure.spots.append(cranked(figure, line))
+        figure.add_spot(cranked(figure, line))
     elif line.kind == DYAD:
         add_dyad(figure, line)
     else:
-        figure.spots.append(ridden(figure, line))
+        figure.add_spot(ridden(figure, line))
 
 
 def cranked(figure, line):
@@ -85,7 +90,7 @@ def cranked(figure, line):
 
 
 def ridden(figure, line):
-    way = way_between(figure, line)
+    way = way_between(figure, line.first, line.second)
     along = line.numbers[0] * line.numbers[3]
     across = line.numbers[2] * line.numbers[1]
     whole = line.numbers[1] * line.numbers[3]
@@ -94,10 +99,10 @@ def ridden(figure, line):
     return Spot(add(scale(way.start_x, whole), x), add(scale(way.start_y, whole), y), scale(way.under, whole))
 
 
-# The way from P to Q.
-def way_between(figure, line):
-    first = figure.spots[line.first]
-    second = figure.spots[line.second]
+# The way from point i to point j.
+def way_between(figure, i, j):
+    first = figure.spots[i]
+    second = figure.spots[j]
     # Points of one piece often are over the same surd already, and its square would only be longer.
     if first.under == second.under:
         return Way(first.x, first.y, subtract(second.x, first.x), subtract(second.y, first.y), first.under)
@@ -109,13 +114,18 @@ def way_between(figure, line):
     return Way(start_x, start_y, x, y, multiply(first.under, second.under, roots))
 
 
+# Over the square of way.under.
+def squared_length(way, roots):
+    return add(square(way.x, roots), square(way.y, roots))
+
+
 def add_dyad(figure, line):
     roots = figure.radicands
-    way = way_between(figure, line)
+    way = way_between(figure, line.first, line.second)
     first_length = line.numbers[0]
     second_length = line.numbers[1]
     # Squares of lengths, all over the square of way.under: no root is needed to see how circles lie.
-    apart = add(square(way.x, roots), square(way.y, roots))
+    apart = squared_length(way, roots)
     unit = square(way.under, roots)
     above_least = subtract(apart, scale(unit, (first_length - second_length) ** 2))
     below_most = subtract(scale(unit, (first_length + second_length) ** 2), apart)
@@ -133,7 +143,7 @@ def add_dyad(figure, line):
         else:
             spot = raised(figure, spot, way)
             roots.append(multiply(above_least, below_most, roots))
-        figure.spots.append(spot)
+        figure.add_spot(spot)
         figure.dyads += 1
 
 

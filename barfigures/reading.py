@@ -2,6 +2,7 @@
 
 from barfigures.linkage import CRANK, DYAD, PIN, Linkage
 from barfigures.scanning import BLANK, END, LINE_FEED, SLASH, Fault, Scanner
+from barfigures.surds import greatest_common_factor
 
 MOST_LINES = 24
 MOST_DYADS = 3
@@ -144,11 +145,3 @@ def read_share(scanner):
     if greatest_common_factor(numerator, denominator) != 1:
         raise Fault(start)
     return (numerator, denominator)
-
-
-def greatest_common_factor(number, other):
-    while other != 0:
-        rest = number % other
-        number = other
-        other = rest
-    return abs(number)

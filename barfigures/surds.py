@@ -10,6 +10,29 @@ half by half then; whoever needs one keeps what is below the stroke.
 """
 
 
+def greatest_common_factor(number, other):
+    while other != 0:
+        rest = number % other
+        number = other
+        other = rest
+    return abs(number)
+
+
+# The surds without the factor that all their numbers have in common; one number at least isn't 0.
+def without_common_factor(surds):
+    factor = 0
+    for surd in surds:
+        for number in surd:
+            factor = greatest_common_factor(factor, number)
+            if factor == 1:
+                return surds
+    return [without_factor(surd, factor) for surd in surds]
+
+
+def without_factor(surd, factor):
+    return [number // factor for number in surd]
+
+
 def lengthened(surd, length):
     return surd + [0] * (length - len(surd))
 

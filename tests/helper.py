@@ -36,6 +36,25 @@ def point(a, b, sides, i, mode=0):
     return [5, a, b, sides, i, mode]
 
 
+def far(a, b, sides, i, j, d):
+    return [6, a, b, sides, i, j, d]
+
+
+def alike(a, b, sides, i, j, k, l):
+    return [7, a, b, sides, i, j, k, l]
+
+
+def side(a, b, sides, i, j, k):
+    return [8, a, b, sides, i, j, k]
+
+
+def way(a, b, sides, i, j, m):
+    return [9, a, b, sides, i, j, m]
+
+
+MIRROR = [10]
+
+
 def answer_all(*calls):
     """The answers to the calls, each a list of its own."""
     flat = answers([number for call in calls for number in call])
@@ -86,6 +105,12 @@ def rounded(number, mode):
     if mode == 2 and Fraction(nearest) < number:
         return math.nextafter(nearest, math.inf)
     return nearest
+
+
+def lines_of(text, names):
+    """The lines of points, given by their names with blanks between."""
+    there = [line.split(" ")[1] for line in text.splitlines()]
+    return [there.index(name) for name in names.split(" ")]
 
 
 def share(word):
@@ -149,3 +174,57 @@ class Sketch:
 
     def is_told(self, sides):
         return self.state == "closed" and not any(sides >> k & 1 for k in self.touching)
+
+    def place_of(self, i):
+        return list(self.points.values())[i]
+
+    def way(self, i, j):
+        (x, y), (x2, y2) = self.place_of(i), self.place_of(j)
+        return x2 - x, y2 - y
+
+    def distance(self, i, j):
+        x, y = self.way(i, j)
+        return (x * x + y * y).sqrt()
+
+    def side(self, i, j, k):
+        return 1 + sign(cross(self.way(i, j), self.way(i, k)))
+
+    def at_one_point(self, i, j):
+        return self.distance(i, j) < TINY
+
+    def parts_of_turn(self, i, j, m):
+        """How many whole 2^m-ths of a turn, and whether the way is along a border of these."""
+        beyond = [sign(cross(border, self.way(i, j))) for border in borders(m)]
+        if m == 1:
+            x, _ = self.way(i, j)
+            return (0 if beyond[0] > 0 or (beyond[0] == 0 and x > 0) else 1), beyond[0] == 0
+        for k, side_of_border in enumerate(beyond):
+            if side_of_border >= 0 > beyond[(k + 1) % len(beyond)]:
+                return k, side_of_border == 0
+        raise AssertionError("a way is in one of the parts")
+
+
+def sign(number):
+    """1, 0 or -1."""
+    return 0 if abs(number) < TINY else (1 if number > 0 else -1)
+
+
+def cross(way_there, other):
+    return way_there[0] * other[1] - way_there[1] * other[0]
+
+
+def borders(m):
+    """The ways between the 2^m-ths of a turn, each 1 long."""
+    x, y = Decimal(-1), Decimal(0)
+    for _ in range(m - 1):
+        # The half of the turn.
+        x, y = ((1 + x) / 2).sqrt(), ((1 - x) / 2).sqrt()
+    ways = [(Decimal(1), Decimal(0))]
+    while len(ways) < 1 << m:
+        ways.append((ways[-1][0] * x - ways[-1][1] * y, ways[-1][0] * y + ways[-1][1] * x))
+    return ways
+
+
+def compared(number, other):
+    """0 less, 1 the same, 2 greater."""
+    return 1 + sign(number - other)
